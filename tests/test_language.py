@@ -1,0 +1,177 @@
+"""How the package is written: some of the rules of LANGUAGE.md, and the interface by its names."""
+
+import ast
+import builtins
+import importlib
+import inspect
+import os
+import unittest
+
+from tests.run import ROOT
+
+PACKAGE = os.path.join(ROOT, "upforgood")
+LIBRARY = {"math": ["comb"]}
+ALLOWED_BUILTINS = """
+len range enumerate zip min max sum abs sorted reversed int str bool bytes list tuple dict set frozenset isinstance
+ord repr any all divmod pow ValueError
+""".split()
+ALLOWED_METHODS = """
+append clear copy count endswith extend find get index insert isalnum isalpha isdigit islower isspace isupper items
+join keys ljust lower lstrip partition pop remove replace reverse rfind rjust rpartition rsplit rstrip setdefault
+split splitlines startswith strip update upper values zfill bit_length add discard
+""".split()
+DOUBLE = ["__init__", "__eq__"]
+NOT_USED = """
+mro elements open input law version_info with_traceback add_note register type typing enum Enum Flag Generic Protocol
+ABC namedtuple dataclass overload contextmanager
+""".split()
+INTERFACE = {
+    "numbers": {
+        "factorial": "number", "choose": "number many", "arrangements": "parts", "even_parts": "total many",
+        "most_arranged": "total rounds rest",
+    },
+    "ranks": {
+        "many_rounds": "count sizes", "rounds_of": "rank kinds sizes", "rank_of": "rounds kinds",
+        "many_raised": "count sizes", "raised_of": "rank wires sizes", "raised_rank": "rounds wires",
+        "answers_of": "rounds wires",
+    },
+    "lines": {
+        "is_spec": "value",
+        "Line": {
+            "__init__": "spec", "kinds": "side", "send": "side kind", "come": "side kind", "sent": "side",
+            "come_to": "side", "under_way": "side", "unsent": "side", "left": "", "copy": "",
+        },
+    },
+}
+
+
+def files():
+    return sorted(os.listdir(PACKAGE))
+
+
+def source(name):
+    with open(os.path.join(PACKAGE, name), encoding="utf-8") as file:
+        return file.read()
+
+
+def trees():
+    return [(name, ast.parse(source(name))) for name in files()]
+
+
+def nodes(kind):
+    return [(name, node) for name, tree in trees() for node in ast.walk(tree) if isinstance(node, kind)]
+
+
+class Form(unittest.TestCase):
+    def test_files(self):
+        for name in files():
+            stem, _, ending = name.rpartition(".")
+            self.assertEqual(ending, "py", name)
+            self.assertTrue(stem.replace("_", "").isalnum() and stem == stem.lower(), name)
+            self.assertNotIn(stem, vars(builtins), name)
+        self.assertIn("__init__.py", files())
+
+    def test_sizes(self):
+        for name in files():
+            text = source(name)
+            self.assertTrue(all(" " <= sign <= "~" or sign == "\n" for sign in text), name)
+            lines = text.split("\n")
+            self.assertLessEqual(len(lines), 399, name)
+            self.assertLessEqual(max([len(line) for line in lines]), 120, name)
+        for name, node in nodes(ast.FunctionDef):
+            self.assertLessEqual(node.end_lineno - node.lineno + 1, 40, (name, node.name))
+
+    def test_imports(self):
+        self.assertEqual(nodes(ast.Import), [])
+        for name, node in nodes(ast.ImportFrom):
+            self.assertEqual((node.level, [part.asname for part in node.names if part.asname]), (0, []), name)
+            words = [part.name for part in node.names]
+            if node.module in LIBRARY:
+                self.assertTrue(all(word in LIBRARY[node.module] for word in words), (name, words))
+                continue
+            package, _, module = node.module.partition(".")
+            self.assertEqual(package, "upforgood", name)
+            defined = [part.name for part in ast.parse(source(module + ".py")).body if hasattr(part, "name")]
+            self.assertTrue(all(word in defined for word in words), (name, words))
+
+    def test_module_level(self):
+        for name, tree in trees():
+            self.assertIsNotNone(ast.get_docstring(tree), name)
+            bound = []
+            for node in tree.body[1:]:
+                self.assertIsInstance(node, (ast.ImportFrom, ast.FunctionDef, ast.ClassDef, ast.Assign), name)
+                if isinstance(node, ast.Assign):
+                    bound += [target.id for target in node.targets]
+                elif isinstance(node, ast.ImportFrom):
+                    bound += [part.name for part in node.names]
+                else:
+                    bound.append(node.name)
+            self.assertEqual(len(bound), len(set(bound)), name)
+
+    def test_statements_and_expressions(self):
+        barred = (
+            ast.GeneratorExp, ast.Global, ast.Nonlocal, ast.AsyncFunctionDef, ast.Div, ast.Yield, ast.YieldFrom,
+            ast.Try, ast.With, ast.Lambda, ast.NamedExpr, ast.Set, ast.Starred, ast.JoinedStr, ast.AnnAssign,
+        )
+        self.assertEqual(nodes(barred), [])
+        for name, node in nodes(ast.Constant):
+            self.assertNotIsInstance(node.value, (float, complex), name)
+            self.assertFalse(isinstance(node.value, str) and "\x25" in node.value, name)
+        for name, node in nodes(ast.FunctionDef):
+            self.assertEqual((node.decorator_list, node.args.vararg, node.args.kwarg), ([], None, None), name)
+
+    def test_names(self):
+        for name, tree in trees():
+            own = [node.name for node in ast.walk(tree) if hasattr(node, "name")]
+            stored = [node.id for node in ast.walk(tree) if isinstance(node, ast.Name) and node.id not in own]
+            parameters = [node.arg for node in ast.walk(tree) if isinstance(node, ast.arg)]
+            attributes = [node.attr for node in ast.walk(tree) if isinstance(node, ast.Attribute)]
+            for word in own + stored + parameters + attributes:
+                self.assertNotIn(word, NOT_USED, name)
+                self.assertTrue(word in DOUBLE or not word.startswith("__"), (name, word))
+            for word in [node.name for node in tree.body if hasattr(node, "name")] + parameters:
+                self.assertNotIn(word, vars(builtins), name)
+            for node in ast.walk(tree):
+                if isinstance(node, ast.Name) and node.id in vars(builtins):
+                    self.assertIsInstance(node.ctx, ast.Load, (name, node.id))
+                    self.assertIn(node.id, ALLOWED_BUILTINS, name)
+
+    def test_methods(self):
+        own = [node.name for _, node in nodes(ast.FunctionDef)]
+        for name, node in nodes(ast.Call):
+            if isinstance(node.func, ast.Attribute):
+                self.assertIn(node.func.attr, own + ALLOWED_METHODS, name)
+
+    def test_only_tests_stand_beside_it(self):
+        for name in files():
+            self.assertFalse(name.startswith("test"), name)
+
+
+class Interface(unittest.TestCase):
+    def test_defined_where_it_is_listed(self):
+        for module, listed in INTERFACE.items():
+            defined = {node.name: node for node in ast.parse(source(module + ".py")).body if hasattr(node, "name")}
+            for name, told in listed.items():
+                if isinstance(told, str):
+                    self.takes(defined[name], told.split())
+                else:
+                    self.has_methods(defined[name], told)
+
+    def has_methods(self, node, told):
+        methods = {part.name: part for part in node.body if isinstance(part, ast.FunctionDef)}
+        for name, parameters in told.items():
+            self.takes(methods[name], ["self"] + parameters.split())
+
+    def takes(self, node, parameters):
+        self.assertEqual([part.arg for part in node.args.args], parameters, node.name)
+        self.assertEqual((node.args.kwonlyargs, node.args.defaults), ([], []), node.name)
+
+    def test_imported_from_its_module(self):
+        for module, listed in INTERFACE.items():
+            found = importlib.import_module("upforgood." + module)
+            for name in listed:
+                self.assertEqual(inspect.getmodule(getattr(found, name)), found)
+
+
+if __name__ == "__main__":
+    unittest.main()

@@ -1,0 +1,1 @@
+"""Upforgood: texts of who tells whom, over lines that never forget."""
