@@ -59,3 +59,58 @@ raises InvalidRank(6)
 >>> line.come(1, 3)
 raises NotSent(3)
 """)
+
+    def test_trees_and_texts(self):
+        self.play("""
+>>> from upforgood.trees import Tree, beyond, path
+>>> from upforgood.texts import due_of, is_text, own_row, values_of
+>>> tree = Tree(4, [(1, 2, ("letters", 4, 4)), (2, 3, ("wires", 6)), (2, 4, ("letters", 1, 1))])
+>>> [path(tree, 3, 1), beyond(tree, 2, 3), beyond(tree, 2, 1), tree.neighbours(2), tree.spec(3, 2)]
+[[3, 2, 1], [3], [1], [1, 3, 4], ('wires', 6)]
+>>> [tree == Tree(4, tree.lines[::-1]), tree == Tree(2, [(1, 2, ("letters", 4, 4))]), tree.lines[2], path(tree, 4, 4)]
+[True, False, (2, 4, ('letters', 1, 1)), [4]]
+>>> text = (("ask", 1, (2, 3), 2, (3, 2), False), ("tell", 1, (2, 3), 4, 3, True), ("deal", 3, (1, 2), (2, 5), 0, False))
+>>> [is_text(tree, text), is_text(tree, text[1:]), is_text(tree, ()), [values_of(step) for step in text]]
+[True, True, False, [2, 4, 10]]
+>>> [due_of(text[1], 4), due_of(text[2], 7), due_of(text[0], 1)]
+[[(2, 'end'), (3, 'end')], [(1, 1), (2, 2)], [(2, 1), (3, 1)]]
+>>> [own_row(tree, text, 1, 2), own_row(tree, text, 3, 2), own_row(tree, text, 2, 4)]
+[[(1, 2), (2, 6), (1, 5), (2, 2)], [(2, 2), (3, 2), (2, 5), (3, 10)], []]
+>>> due_of(text[0], 2)
+raises InvalidValue(2)
+>>> beyond(tree, 1, 3)
+raises NoLine(1, 3)
+""")
+
+    def test_programs(self):
+        self.play("""
+>>> from upforgood.programs import Folded, Table
+>>> table = Table("wait", {("wait", ("handed", 0)): ("told", ((2, 1), (2, 4)), ()), ("told", ("comes", 2, 1)): ("over", (), (("done",),))})
+>>> [table.first(), table.step("wait", ("handed", 0)), table.step("wait", ("handed", 1))]
+['wait', ('told', ((2, 1), (2, 4)), ()), ('wait', (), ())]
+>>> [Folded(table, [(2, 3)]).step("wait", ("handed", 0)), Folded(table, [(2, 0)]).step("wait", ("handed", 0)), Folded(table, [(2, 2)]).first()]
+[('told', ((2, 1),), ()), ('told', (), ()), 'wait']
+>>> [table == Table("wait", table.rows()), table == Table("told", table.rows()), len(table.rows()), Table((0, ("a", ())), {}).first()]
+[True, False, 2, (0, ('a', ()))]
+>>> Table("wait", {"wait": 1})
+raises InvalidRows({'wait': 1})
+""")
+
+    def test_rows(self):
+        self.play("""
+>>> from upforgood.rows import can_tell, fits, left_by, plan, stairs, stairs_hold
+>>> [can_tell([6, 2], 3, 2), can_tell([2, 6], 2, 3), can_tell([3, 2, 2], 3, 2), can_tell([3, 1, 2], 3, 1), can_tell([2, 1, 3], 3, 1)]
+[False, True, True, True, False]
+>>> [fits([3, 1, 2], 3, 1, ((1,), (1,), (1,))), fits([3, 1, 2], 3, 1, ((2,), (1,), (1,))), fits([6], 3, 1, ((1, 1),)), fits([6], 3, 0, ((1, 1),))]
+[True, False, True, False]
+>>> [plan([1, 1], 1, 1), plan([5], 3, 0), plan([], 0, 0)]
+[((1,), (1,)), None, ()]
+>>> [left_by(((1,), (1,), (1,)), 3, 1), left_by(((1, 1),), 3, 1), left_by((), 2, 5)]
+[(1, 0), (1, 0), (2, 5)]
+>>> stairs([2, 2], 3)
+[[None, None, 2, 2], [None, None, 0, 0], [0, 0, 0, 0]]
+>>> [stairs_hold([2], 1, ((None, None), [0, 0])), stairs_hold([2], 1, [[None, 0], [0, 0]])]
+[True, False]
+>>> can_tell([0], 3, 1)
+raises InvalidRow([0])
+""")

@@ -42,6 +42,23 @@ INTERFACE = {
             "come_to": "side", "under_way": "side", "unsent": "side", "left": "", "copy": "",
         },
     },
+    "trees": {
+        "Tree": {"__init__": "ends lines", "__eq__": "other", "neighbours": "end", "spec": "u w"},
+        "path": "tree u w", "beyond": "tree u w",
+    },
+    "texts": {
+        "is_text": "tree value", "values_of": "step", "due_of": "step value", "own_row": "tree text u w",
+    },
+    "programs": {
+        "Table": {
+            "__init__": "first rows", "__eq__": "other", "first": "", "step": "standing event", "rows": "",
+        },
+        "Folded": {"__init__": "program folds", "first": "", "step": "standing event"},
+    },
+    "rows": {
+        "can_tell": "row own other", "fits": "row own other value", "plan": "row own other",
+        "left_by": "value own other", "stairs": "row most", "stairs_hold": "row most value",
+    },
 }
 
 

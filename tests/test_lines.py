@@ -120,6 +120,8 @@ class AgainstAModel(Case):
                         came[side].add(kind)
             self.assertEqual([line.sent(0), line.sent(1)], [sorted(sent[0]), sorted(sent[1])])
             self.assertEqual([line.come_to(0), line.come_to(1)], [sorted(came[0]), sorted(came[1])])
+            left = (2 - len(sent[0]), 2 - len(sent[1])) if spec[0] == "letters" else (2 - len(sent[0] | sent[1]),)
+            self.assertEqual(line.left(), left)
             for side in [0, 1]:
                 up = sent[side] | came[side] if spec[0] == "wires" else came[side]
                 self.assertEqual(line.under_way(side), sorted(sent[1 - side] - up))
