@@ -114,3 +114,130 @@ raises InvalidRows({'wait': 1})
 >>> can_tell([0], 3, 1)
 raises InvalidRow([0])
 """)
+
+    def test_wires(self):
+        self.play("""
+>>> from upforgood.wires import can_raise, leasts, most_raised, raise_fits, raise_plan
+>>> [most_raised(wires) for wires in range(9)]
+[0, 1, 2, 3, 8, 20, 48, 168, 560]
+>>> [can_raise([3, 2, 1], 3), can_raise([3, 3], 3), can_raise([], 0), can_raise([8], 4), can_raise([9], 4)]
+[True, False, True, True, False]
+>>> [raise_fits([8], 4, ((1, 1),)), raise_fits([6, 1], 4, ((2,), (1,))), raise_fits([8, 1], 4, ((1, 1), (1,))), raise_fits([8, 1], 4, ((1, 1), ()))]
+[True, True, True, False]
+>>> [raise_plan([2, 1], 2), raise_plan([9], 4), raise_plan([], 0)]
+[((1,), (1,)), None, ()]
+>>> [leasts([2, 6, 5]), leasts([2, 2, 5]), leasts([])]
+[[7, 6, 4, 0], [6, 5, 4, 0], [0]]
+>>> most_raised(25)
+raises InvalidWires(25)
+""")
+
+    def test_keeping(self):
+        self.play("""
+>>> from upforgood.trees import Tree
+>>> from upforgood.keeping import barred, can_keep, is_paper, papers, uses
+>>> text = (("ask", 1, (2, 3), 2, (3, 2), False), ("tell", 1, (2, 3), 4, 3, True))
+>>> tree = Tree(3, [(1, 2, ("wires", 7)), (2, 3, ("letters", 4, 3))])
+>>> [can_keep(tree, text), barred(tree, text), barred(Tree(3, [(1, 2, ("wires", 6)), (2, 3, ("letters", 1, 8))]), text)]
+[True, [], [(1, 2), (2, 3)]]
+>>> paper = [((1,), (1,), (1,)), ((1,), (1,), (1, 1))]
+>>> [is_paper(tree, text, paper), is_paper(tree, text, [((1,), (1,), (1,)), ((1,), (1,), (2,))])]
+[True, False]
+>>> [is_paper(tree, text, papers(tree, text)), papers(Tree(3, [(1, 2, ("wires", 6)), (2, 3, ("letters", 4, 3))]), text)]
+[True, None]
+>>> [uses(tree, text, paper, 0), uses(tree, text, paper, 1)]
+[[(1, 1), (1, 1)], [(1, 0), (2, 1)]]
+>>> uses(tree, text, paper, 2)
+raises InvalidAt(2)
+""")
+
+    def test_ends(self):
+        self.play("""
+>>> from upforgood.ends import made
+>>> from upforgood.keeping import papers
+>>> from upforgood.trees import Tree
+>>> from upforgood.worlds import World
+>>> tree = Tree(3, [(1, 2, ("letters", 3, 2)), (2, 3, ("wires", 5))])
+>>> text = (("tell", 1, (2, 3), 3, 3, False), ("tell", 3, (1,), 2, 0, False))
+>>> world = World(tree, text, made(tree, text, papers(tree, text)))
+>>> [world.hand(2), len(world.calm()) > 0, world.fault(), world.decided(2), world.decided(3), world.turn(), world.done()]
+[[], True, None, [(0, 2)], [(0, 2)], 1, 1]
+>>> [world.hand(1), len(world.calm()) > 0, world.is_over(), world.decided(1), world.fault()]
+[[], True, True, [(1, 1)], None]
+""")
+
+    def test_ends_again(self):
+        self.play("""
+>>> from upforgood.ends import made
+>>> from upforgood.keeping import papers
+>>> from upforgood.trees import Tree
+>>> from upforgood.worlds import World
+>>> tree = Tree(3, [(1, 2, ("letters", 2, 2)), (1, 3, ("wires", 4))])
+>>> text = (("ask", 1, (2, 3), 1, (2, 3), True),)
+>>> paper = papers(tree, text)
+>>> world = World(tree, text, made(tree, text, paper))
+>>> [world.hand(0), len(world.calm()) > 0, world.asked(), world.answer(3, 2), len(world.calm()) > 0, world.asked(), world.done()]
+[[], True, [2, 3], [], True, [2], 0]
+>>> [world.answer(2, 1), len(world.calm()) > 0, world.done(), world.is_over(), world.fault()]
+[[], True, 1, True, None]
+>>> world = World(tree, text, made(tree, text, paper))
+>>> [world.hand(1), len(world.calm()) > 0, world.decided(2), world.decided(3), world.asked(), world.is_over(), world.done()]
+[[], True, [(0, 'end')], [(0, 'end')], [], True, 0]
+>>> made(tree, text, [((1,), (1,))])
+raises InvalidPaper([((1,), (1,))])
+""")
+
+    def test_worlds(self):
+        self.play("""
+>>> from upforgood.programs import Table
+>>> from upforgood.trees import Tree
+>>> from upforgood.worlds import World, fault_of
+>>> tree = Tree(2, [(1, 2, ("letters", 2, 0))])
+>>> text = (("tell", 1, (2,), 2, 0, False),)
+>>> teller = Table("", {("", ("handed", 0)): ("", ((2, 1),), ()), ("", ("handed", 1)): ("", ((2, 1), (2, 2)), ())})
+>>> hearer = Table("", {("", ("comes", 1, 1)): ("", (), (("decides", 0),)), ("", ("comes", 1, 2)): ("two", (), ()), ("two", ("comes", 1, 1)): ("", (), (("decides", 1),))})
+>>> world = World(tree, text, [teller, hearer])
+>>> [world.turn(), world.hand(1), world.under_way(), world.give(1, 2, 2), world.give(1, 2, 1), world.is_over(), world.fault(), world.decided(2)]
+[0, [], [(1, 2, 1), (1, 2, 2)], [], [(2, ('decides', 1))], True, None, [(0, 1)]]
+>>> [fault_of(tree, text, [teller, hearer], [("hand", 1), ("give", 1, 2, 1)]), fault_of(tree, text, [teller, teller], [("hand", 0), ("give", 1, 2, 1)])]
+['wrong', 'never']
+>>> world.hand(0)
+raises NoTurn()
+""")
+
+    def test_worlds_again(self):
+        self.play("""
+>>> from upforgood.programs import Table
+>>> from upforgood.trees import Tree
+>>> from upforgood.worlds import World
+>>> asker = Table(0, {(0, ("handed", 0)): (1, ((2, 1),), ()), (1, ("comes", 2, 1)): (0, (), (("answers", (0,)),)), (1, ("comes", 2, 2)): (0, (), (("answers", (1,)),))})
+>>> asked = Table(0, {(0, ("comes", 1, 1)): (1, (), (("decides", 0),)), (1, ("handed", 0)): (0, ((1, 1),), ()), (1, ("handed", 1)): (0, ((1, 2), (3, 1)), ())})
+>>> world = World(Tree(2, [(1, 2, ("letters", 1, 2))]), (("ask", 1, (2,), 1, (2,), False),), [asker, asked])
+>>> [world.hand(0), world.calm(), world.asked(), world.turn(), world.done()]
+[[], [('give', 1, 2, 1)], [2], None, 0]
+>>> copy = world.copy()
+>>> [world.answer(2, 1), world.give(2, 1, 2), world.is_over(), world.done(), world.asked(), copy.asked(), copy.under_way()]
+[[], [(1, ('answers', (1,)))], True, 1, [], [2], []]
+>>> [world.run(), copy.answer(2, 0), copy.line(2, 1).sent(1)]
+[[('hand', 0), ('give', 1, 2, 1), ('answer', 2, 1), ('give', 2, 1, 2)], [], [1]]
+>>> copy.give(2, 1, 2)
+raises NotSent(2)
+""")
+
+    def test_judging(self):
+        self.play("""
+>>> from upforgood.judging import judged, tabled
+>>> from upforgood.programs import Table
+>>> from upforgood.trees import Tree
+>>> tree = Tree(2, [(1, 2, ("letters", 2, 0))])
+>>> text = (("tell", 1, (2,), 2, 0, False),)
+>>> teller = Table("", {("", ("handed", 0)): ("", ((2, 1),), ()), ("", ("handed", 1)): ("", ((2, 2),), ())})
+>>> hearer = Table("", {("", ("comes", 1, 1)): ("", (), (("decides", 0),)), ("", ("comes", 1, 2)): ("", (), (("decides", 1),))})
+>>> wrong = Table("", {("", ("comes", 1, 1)): ("", (), (("decides", 1),)), ("", ("comes", 1, 2)): ("", (), (("decides", 1),))})
+>>> [judged(tree, text, [teller, hearer], 5), judged(tree, text, [teller, wrong], 20)]
+[None, [('hand', 0), ('give', 1, 2, 1)]]
+>>> judged(tree, text, tabled(tree, text, [teller, wrong], 20), 20)
+[('hand', 0), ('give', 1, 2, 1)]
+>>> judged(tree, text, [teller, hearer], 4)
+raises TooMany(5)
+""")

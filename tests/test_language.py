@@ -59,6 +59,21 @@ INTERFACE = {
         "can_tell": "row own other", "fits": "row own other value", "plan": "row own other",
         "left_by": "value own other", "stairs": "row most", "stairs_hold": "row most value",
     },
+    "wires": {
+        "can_raise": "row wires", "raise_fits": "row wires value", "raise_plan": "row wires", "leasts": "row", "most_raised": "wires",
+    },
+    "keeping": {
+        "can_keep": "tree text", "papers": "tree text", "is_paper": "tree text value", "barred": "tree text", "uses": "tree text value at",
+    },
+    "ends": {"Made": {"first": "", "step": "standing event"}, "made": "tree text value"},
+    "worlds": {
+        "World": {
+            "__init__": "tree text programs", "turn": "", "asked": "", "under_way": "", "is_over": "", "fault": "", "hand": "value",
+            "answer": "end number", "give": "u w kind", "decided": "end", "done": "", "line": "u w", "run": "", "calm": "", "copy": "",
+        },
+        "fault_of": "tree text programs run",
+    },
+    "judging": {"judged": "tree text programs most", "tabled": "tree text programs most"},
 }
 
 
@@ -108,7 +123,9 @@ class Form(unittest.TestCase):
                 continue
             package, _, module = node.module.partition(".")
             self.assertEqual(package, "upforgood", name)
-            defined = [part.name for part in ast.parse(source(module + ".py")).body if hasattr(part, "name")]
+            body = ast.parse(source(module + ".py")).body
+            defined = [part.name for part in body if hasattr(part, "name")]
+            defined += [target.id for part in body if isinstance(part, ast.Assign) for target in part.targets]
             self.assertTrue(all(word in defined for word in words), (name, words))
 
     def test_module_level(self):
@@ -127,8 +144,7 @@ class Form(unittest.TestCase):
 
     def test_statements_and_expressions(self):
         barred = (
-            ast.GeneratorExp, ast.Global, ast.Nonlocal, ast.AsyncFunctionDef, ast.Div, ast.Yield, ast.YieldFrom,
-            ast.Try, ast.With, ast.Lambda, ast.NamedExpr, ast.Set, ast.Starred, ast.JoinedStr, ast.AnnAssign,
+            ast.GeneratorExp, ast.Global, ast.Nonlocal, ast.AsyncFunctionDef, ast.Div, ast.Yield, ast.YieldFrom, ast.With, ast.Lambda, ast.NamedExpr, ast.Set, ast.Starred, ast.JoinedStr, ast.AnnAssign,
         )
         self.assertEqual(nodes(barred), [])
         for name, node in nodes(ast.Constant):
@@ -137,9 +153,17 @@ class Form(unittest.TestCase):
         for name, node in nodes(ast.FunctionDef):
             self.assertEqual((node.decorator_list, node.args.vararg, node.args.kwarg), ([], None, None), name)
 
+    def test_only_own_errors_are_caught(self):
+        own = [node.name for node in ast.parse(source("errors.py")).body if isinstance(node, ast.ClassDef)]
+        for name, node in nodes(ast.Try):
+            self.assertEqual((node.finalbody, node.orelse), ([], []), name)
+            for handler in node.handlers:
+                self.assertIn(handler.type.id, own, name)
+                self.assertIsNone(handler.name, name)
+
     def test_names(self):
         for name, tree in trees():
-            own = [node.name for node in ast.walk(tree) if hasattr(node, "name")]
+            own = [node.name for node in ast.walk(tree) if getattr(node, "name", None)]
             stored = [node.id for node in ast.walk(tree) if isinstance(node, ast.Name) and node.id not in own]
             parameters = [node.arg for node in ast.walk(tree) if isinstance(node, ast.arg)]
             attributes = [node.attr for node in ast.walk(tree) if isinstance(node, ast.Attribute)]

@@ -24,12 +24,12 @@ def many_rounds(count, sizes):
 
 def rounds_of(rank, kinds, sizes):
     _check_rank(rank, kinds, sizes, ON_LETTERS)
-    return _rounds_at(rank, kinds, sizes, ON_LETTERS)
+    return rounds_at(rank, kinds, sizes, ON_LETTERS)
 
 
 def rank_of(rounds, kinds):
     _check_rounds(rounds, kinds, ON_LETTERS)
-    return _rank(rounds, kinds, ON_LETTERS)
+    return rank_at(rounds, kinds, ON_LETTERS)
 
 
 def many_raised(count, sizes):
@@ -40,12 +40,12 @@ def many_raised(count, sizes):
 
 def raised_of(rank, wires, sizes):
     _check_rank(rank, wires, sizes, ON_WIRES)
-    return _rounds_at(rank, wires, sizes, ON_WIRES)
+    return rounds_at(rank, wires, sizes, ON_WIRES)
 
 
 def raised_rank(rounds, wires):
     _check_rounds(rounds, wires, ON_WIRES)
-    return _rank(rounds, wires, ON_WIRES)
+    return rank_at(rounds, wires, ON_WIRES)
 
 
 def answers_of(rounds, wires):
@@ -53,8 +53,8 @@ def answers_of(rounds, wires):
     answers = []
     left = list(wires)
     for chosen in rounds[:-1]:
-        answers.append(_behind(left, chosen, 0)[0])
-        left = _behind(left, chosen, ON_WIRES)
+        answers.append(behind(left, chosen, 0)[0])
+        left = behind(left, chosen, ON_WIRES)
     return tuple(answers)
 
 
@@ -70,25 +70,25 @@ def _many(count, sizes, gap):
     return result
 
 
-def _rounds_at(rank, kinds, sizes, gap):
+def rounds_at(rank, kinds, sizes, gap):
     rounds = []
     left = list(kinds)
     for at, size in enumerate(sizes):
         further = _many(len(left) - size - gap, sizes[at + 1:], gap)
         chosen = _chosen_at(rank // further, left, size)
         rank = rank % further
-        left = _behind(left, chosen, gap)
+        left = behind(left, chosen, gap)
         rounds.append(chosen)
     return tuple(rounds)
 
 
-def _rank(rounds, kinds, gap):
+def rank_at(rounds, kinds, gap):
     rank = 0
     left = list(kinds)
     for at, chosen in enumerate(rounds):
         rank *= _many_chosen(left, chosen)
         rank += _chosen_rank(chosen, left)
-        left = _behind(left, chosen, gap)
+        left = behind(left, chosen, gap)
     return rank
 
 
@@ -96,7 +96,7 @@ def _many_chosen(kinds, chosen):
     return comb(len(kinds), len(chosen))
 
 
-def _behind(kinds, chosen, gap):
+def behind(kinds, chosen, gap):
     """What is left of the kinds behind a round and its answer."""
     return [kind for kind in kinds if kind not in chosen][gap:]
 
@@ -165,7 +165,7 @@ def _are_rounds(value, kinds, gap):
     for chosen in value:
         if not _is_chosen(chosen, left):
             return False
-        left = _behind(left, chosen, gap)
+        left = behind(left, chosen, gap)
     return True
 
 

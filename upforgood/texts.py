@@ -2,11 +2,11 @@
 
 from upforgood.checks import are_between, is_ascending, is_between
 from upforgood.errors import InvalidText, InvalidValue
+from upforgood.parts import due_to, hearers_in, many_answers, many_for
 from upforgood.trees import beyond
 
 MOST_STEPS = 8
 MOST_VALUES = 10 ** 12
-END = "end"
 
 
 def is_text(tree, value):
@@ -15,38 +15,43 @@ def is_text(tree, value):
     last = len(value) - 1
     if not all([_is_step(tree, step, at == last) for at, step in enumerate(value)]):
         return False
-    return all([_goes_on(value[at]) == value[at + 1][1] for at in range(last)])
+    return all([goes_on(value[at]) == value[at + 1][1] for at in range(last)])
 
 
 def values_of(step):
-    if step[0] == "deal":
-        return _product(step[3])
-    return step[3]
+    return many_for(step, step[2])
 
 
 def due_of(step, value):
-    many = values_of(step)
-    hearers = step[2]
-    if may_end(step) and is_between(value, many, many):
-        return [(hearer, END) for hearer in hearers]
-    if not is_between(value, 0, many - 1):
+    if not is_value(step, value):
         raise InvalidValue(value)
-    if step[0] == "deal":
-        return list(zip(hearers, _digits(step[3], value)))
-    return [(hearer, value) for hearer in hearers]
+    hearers = list(step[2])
+    return [(hearer, due_to(step, hearers, value, hearer)) for hearer in hearers]
+
+
+def is_value(step, value):
+    return is_between(value, 0, values_of(step) - 1 + int(may_end(step)))
 
 
 def own_row(tree, text, u, w):
+    row = []
+    for asked in rows_by_steps(tree, text, u, w):
+        row.extend(asked)
+    return row
+
+
+def rows_by_steps(tree, text, u, w):
+    """For each step the list of what it asks of the line between u and w."""
     with_w = beyond(tree, u, w)
     with_u = beyond(tree, w, u)
     check_text(tree, text)
-    row = []
+    rows = []
     for step in text:
         if step[1] in with_u:
-            row.extend(_asked(step, u, w, with_w))
+            rows.append(_asked(step, u, w, with_w))
         else:
-            row.extend(_asked(step, w, u, with_u))
-    return row
+            rows.append(_asked(step, w, u, with_u))
+    return rows
 
 
 def check_text(tree, text):
@@ -58,52 +63,24 @@ def may_end(step):
     return step[5]
 
 
-def _asked(step, near, far, far_ends):
-    """What a step asks of the line from near to far, beyond which the far ends stand."""
-    hears = [hearer in far_ends for hearer in step[2]]
-    if not any(hears):
-        goes_beyond = _goes_on(step) in far_ends
-        return [(near, 1)] if goes_beyond else []
-    told = (near, _values_beyond(step, hears) + int(may_end(step)))
-    if step[0] == "ask":
-        return [told, (far, _product_where(step[4], hears))]
-    if _goes_on(step) == 0 or _goes_on(step) in far_ends:
-        return [told]
-    return [told, (far, 1)]
-
-
-def _values_beyond(step, hears):
-    if step[0] == "deal":
-        return _product_where(step[3], hears)
-    return step[3]
-
-
-def _product_where(numbers, chosen):
-    return _product([number for at, number in enumerate(numbers) if chosen[at]])
-
-
-def _product(numbers):
-    result = 1
-    for number in numbers:
-        result *= number
-    return result
-
-
-def _digits(numbers, value):
-    """The first hearer's digit counts most, as tuples are ordered by their first items."""
-    digits = []
-    left = value
-    for number in reversed(numbers):
-        digits.append(left % number)
-        left = left // number
-    return digits[::-1]
-
-
-def _goes_on(step):
+def goes_on(step):
     """The end that goes on from a step, or 0."""
     if step[0] == "ask":
         return step[1]
     return step[4]
+
+
+def _asked(step, near, far, far_ends):
+    """What a step asks of the line from near to far, beyond which the far ends stand."""
+    hearers = hearers_in(step, far_ends)
+    if hearers == []:
+        return [(near, 1)] if goes_on(step) in far_ends else []
+    told = (near, many_for(step, hearers) + int(may_end(step)))
+    if step[0] == "ask":
+        return [told, (far, many_answers(step, hearers))]
+    if goes_on(step) == 0 or goes_on(step) in far_ends:
+        return [told]
+    return [told, (far, 1)]
 
 
 def _is_step(tree, step, is_last):

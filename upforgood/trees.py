@@ -55,6 +55,12 @@ def check_line(tree, u, w):
         raise NoLine(u, w)
 
 
+def check_neighbours(tree, u, w):
+    """As check_line, but what is no end has no line either."""
+    if not is_between(u, 1, tree.ends) or not is_between(w, 1, tree.ends) or w not in tree.neighbours(u):
+        raise NoLine(u, w)
+
+
 def _way(tree, begun, w):
     """The way from the first of the ends that begin it to w, or None if they lead astray."""
     if begun[-1] == w:
