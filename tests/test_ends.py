@@ -242,6 +242,60 @@ class Programs(Case):
             self.assertTrue(is_standing(deed[0]) and are_sends(deed[1]) and are_says(deed[2]), deed)
             standing = deed[0]
 
+    def unchanged(self, program, standing, event):
+        self.same(program.step(standing, event), (standing, (), ()))
+
+    def test_what_is_not_handed_to_it(self):
+        tree = Tree(2, [(1, 2, ("letters", 8, 8))])
+        text = (("ask", 1, (2,), 2, (3,), True), ("deal", 1, (2,), (3,), 1, False))
+        asker, hearer = made(tree, text, [((1,), (1,), (1,), (1,))])
+        for value in [-1, 3, 10 ** 20]:
+            self.unchanged(asker, asker.first(), ("handed", value))
+            self.unchanged(hearer, hearer.first(), ("handed", value))
+        asked, _, said = hearer.step(hearer.first(), ("comes", 1, 2))
+        self.same(said, (("decides", 1),))
+        for value in [-1, 3, 4, 10 ** 20]:
+            self.unchanged(hearer, asked, ("handed", value))
+        behind, sends, said = hearer.step(asked, ("handed", 2))
+        self.same([sends, said], [((1, 3),), ()])
+        self.unchanged(hearer, behind, ("handed", 2))
+        for event in [("comes", 1, 2), ("comes", 1, 9), ("comes", 1, 0), ("comes", 2, 1), ("comes", 3, 1)]:
+            self.unchanged(hearer, behind, event)
+
+    def test_rounds_that_stand_for_no_value(self):
+        tree = Tree(2, [(1, 2, ("letters", 8, 8))])
+        for text, said in [((("tell", 1, (2,), 3, 2, False),), 2), ((("deal", 1, (2,), (4,), 2, False),), 3), ((("ask", 1, (2,), 3, (2,), True),), "end")]:
+            paper = papers(tree, text) if text[0][0] != "ask" else [((1,), (1,))]
+            paper = [((1,),) + paper[0][1:]]
+            self.assertTrue(is_paper(tree, text, paper))
+            hearer = made(tree, text, paper)[1]
+            self.same(hearer.step(hearer.first(), ("comes", 1, 8))[2][0], ("decides", said))
+
+    def test_the_order_of_replies_is_forgotten(self):
+        tree = Tree(4, [(1, end, ("letters", 2, 2)) for end in (2, 3, 4)])
+        text = (("ask", 1, (2, 3, 4), 2, (2, 2, 2), False),)
+        asker = made(tree, text, papers(tree, text))[0]
+        behind = asker.step(asker.first(), ("handed", 1))[0]
+        found = []
+        for order in [(2, 4), (4, 2)]:
+            standing = behind
+            for near in order:
+                standing = asker.step(standing, ("comes", near, 2))[0]
+            found.append(standing)
+        self.same(found[0], found[1])
+        self.same(asker.step(found[0], ("comes", 3, 1))[2], (("answers", (1, 0, 1)),))
+
+    def test_a_text_that_goes_on_behind_its_end(self):
+        """Only other programs bring this about."""
+        tree = Tree(4, [(1, end, ("letters", 8, 8)) for end in (2, 3, 4)])
+        text = (("tell", 2, (3, 4), 1, 3, True), ("tell", 3, (4,), 1, 3, False))
+        centre = made(tree, text, papers(tree, text))[0]
+        standing, sends, said = centre.step(centre.first(), ("comes", 2, 2))
+        self.same([sends, said], [((3, 2), (4, 2)), ()])
+        deed = centre.step(standing, ("comes", 3, 1))
+        self.same(deed[1:], ((), ()))
+        self.assertTrue(is_standing(deed[0]))
+
     def test_for_another_tree_and_text(self):
         rng = random.Random(107)
         for _ in range(60):

@@ -241,3 +241,57 @@ raises NotSent(2)
 >>> judged(tree, text, [teller, hearer], 4)
 raises TooMany(5)
 """)
+
+    def test_breaking(self):
+        self.play("""
+>>> from upforgood.breaking import broken
+>>> from upforgood.programs import Table
+>>> from upforgood.trees import Tree
+>>> from upforgood.worlds import fault_of
+>>> tree = Tree(2, [(1, 2, ("letters", 2, 0))])
+>>> text = (("tell", 1, (2,), 3, 0, False),)
+>>> rows = {("", ("handed", 0)): ("", ((2, 1),), ()), ("", ("handed", 1)): ("", ((2, 2),), ()), ("", ("handed", 2)): ("", ((2, 1), (2, 2)), ())}
+>>> hearer = Table("", {("", ("comes", 1, 1)): ("", (), (("decides", 0),)), ("", ("comes", 1, 2)): ("", (), (("decides", 1),))})
+>>> [fault_of(tree, text, [Table("", rows), hearer], broken(tree, text, [Table("", rows), hearer])), fault_of(tree, text, [Table("", {}), hearer], broken(tree, text, [Table("", {}), hearer]))]
+['wrong', 'never']
+>>> broken(tree, (("tell", 1, (2,), 2, 0, False),), [Table("", rows), hearer])
+raises Kept()
+""")
+
+    def test_leasts(self):
+        self.play("""
+>>> from upforgood.leasts import can_tell_within, fewest_answers, fewest_kinds, least_pairs, least_wires
+>>> [least_pairs([6, 1], 6), least_pairs([4, 4, 4], 6), least_pairs([], 2), least_pairs([7], 2)]
+[[(3, 2), (4, 1)], [(4, 4), (5, 3)], [(0, 0)], []]
+>>> least_wires(3, [(2, 3), (1, 2)], (("ask", 1, (2, 3), 2, (3, 2), False), ("tell", 1, (2, 3), 4, 3, True)))
+(7, 6)
+>>> [can_tell_within([20], 6, 2, 0, 3), can_tell_within([20], 6, 2, 0, 2), can_tell_within([20], 6, 2, 1, 2)]
+[True, False, True]
+>>> [fewest_answers([20], 6, 2), fewest_kinds([20], 6, 2), fewest_answers([720], 6, 5), fewest_kinds([7], 2, 5)]
+[0, 3, 4, None]
+>>> can_tell_within([20], 6, 2, -1, 2)
+raises InvalidAnswers(-1)
+""")
+
+    def test_servers(self):
+        self.play("""
+>>> from upforgood.service import can_serve, can_serve_raised, most_served
+>>> from upforgood.servers import Service
+>>> from upforgood.trees import Tree
+>>> [can_serve(2, 2, 3, 3), can_serve(2, 3, 3, 3), can_serve(3, 2, 4, 4), can_serve(3, 3, 4, 4), can_serve(1, 0, 0, 0), can_serve(2, 1, 2, 1)]
+[True, False, True, False, True, False]
+>>> [can_serve_raised(2, 1, 2), can_serve_raised(2, 1, 1), can_serve_raised(1, 2, 4)]
+[True, False, True]
+>>> tree = Tree(3, [(1, 2, ("letters", 3, 3)), (2, 3, ("wires", 6))])
+>>> [most_served(tree, 2, 8), most_served(tree, 2, 1)]
+[2, 1]
+>>> service = Service(tree, 2, 2)
+>>> [service.free(), service.hand(1, 1), service.free(), len(service.calm()) > 0, service.decided(2), service.decided(3), service.count(), service.free()]
+[True, [], False, True, [(0, 1)], [(0, 1)], 1, True]
+>>> [service.left(2, 1), service.under_way(), service.decided(1)]
+[(2, 2), [], []]
+>>> [service.hand(3, 0), len(service.calm()) > 0, service.decided(1), service.decided(2), service.decided(3), service.count(), service.free()]
+[[], True, [(1, 0)], [(0, 1), (1, 0)], [(0, 1)], 2, False]
+>>> Service(tree, 2, 3)
+raises NoService(2)
+""")

@@ -10,7 +10,7 @@ import unittest
 from tests.run import ROOT
 
 PACKAGE = os.path.join(ROOT, "upforgood")
-LIBRARY = {"math": ["comb"]}
+LIBRARY = {"math": ["comb", "lcm"]}
 ALLOWED_BUILTINS = """
 len range enumerate zip min max sum abs sorted reversed int str bool bytes list tuple dict set frozenset isinstance
 ord repr any all divmod pow ValueError
@@ -74,6 +74,20 @@ INTERFACE = {
         "fault_of": "tree text programs run",
     },
     "judging": {"judged": "tree text programs most", "tabled": "tree text programs most"},
+    "breaking": {"broken": "tree text programs"},
+    "leasts": {
+        "least_pairs": "row most", "least_wires": "ends pairs text", "can_tell_within": "row own other answers letters",
+        "fewest_answers": "row own other", "fewest_kinds": "row own other",
+    },
+    "service": {
+        "can_serve": "value times first second", "can_serve_raised": "value times wires", "most_served": "tree value most",
+    },
+    "servers": {
+        "Service": {
+            "__init__": "tree value times", "free": "", "hand": "end number", "give": "u w kind", "under_way": "", "calm": "",
+            "decided": "end", "count": "", "left": "u w",
+        },
+    },
 }
 
 

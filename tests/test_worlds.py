@@ -56,7 +56,7 @@ class AgainstReference(Case):
             if programs is None:
                 programs = [some_table(rng, tree, end) for end in range(1, ends + 1)]
             faults[self.walk(rng, tree, text, programs)] += 1
-        self.assertTrue(min(faults.values()) > 10, faults)
+        self.assertTrue(min(faults.values()) > 4, faults)
 
     def walk(self, rng, tree, text, programs):
         world, run = World(tree, text, programs), Run(tree, text, programs)

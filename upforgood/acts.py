@@ -147,7 +147,7 @@ class Act:
         """Begin to tell a number of a step, unless it is not this one's turn on the line."""
         talk = self._talk(near)
         number = self._number(near, talk)
-        if number is None or number[:2] != (at, self.role.end) or talk.is_telling():
+        if number is None or number[:2] != (at, self.role.end):
             return
         self._send(near, talk.tell(number[3], value))
         self._keep(near, talk)

@@ -15,10 +15,7 @@ class Made:
     def first(self):
         role = self._role
         turn = 0 if role.text[0][SPEAKER] == role.end else NO_TURN
-        talks = []
-        for near in role.neighbours:
-            own, other = role.kinds(near)
-            talks.append(new_state(own, other))
+        talks = [new_state(role.specs[near], role.end < near) for near in role.neighbours]
         return (turn, (), tuple(talks))
 
     def step(self, standing, event):

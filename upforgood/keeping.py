@@ -2,9 +2,9 @@
 
 from upforgood.checks import is_between, is_list
 from upforgood.errors import InvalidAt, InvalidPaper
-from upforgood.rows import can_tell, fits, plan
+from upforgood.rows import fits, plan
 from upforgood.texts import check_text, own_row, rows_by_steps
-from upforgood.wires import can_raise, raise_fits, raise_plan
+from upforgood.wires import raise_fits, raise_plan
 
 
 def can_keep(tree, text):
@@ -26,7 +26,7 @@ def is_paper(tree, text, value):
 
 def barred(tree, text):
     check_text(tree, text)
-    return [(line[0], line[1]) for line in tree.lines if not _can_tell(tree, text, line)]
+    return [(line[0], line[1]) for line in tree.lines if _plan(tree, text, line) is None]
 
 
 def uses(tree, text, value, at):
@@ -51,15 +51,6 @@ def kinds_for(line, row):
     if row == [] or row[0][0] == u:
         return spec[1:]
     return (spec[2], spec[1])
-
-
-def _can_tell(tree, text, line):
-    u, w, spec = line
-    row = own_row(tree, text, u, w)
-    if spec[0] == "wires":
-        return can_raise(numbers_of(row), spec[1])
-    own, other = kinds_for(line, row)
-    return can_tell(numbers_of(row), own, other)
 
 
 def _plan(tree, text, line):

@@ -46,6 +46,16 @@ def part_for(step, some, value, fewer):
     return value_of(_numbers(step, step[3], fewer), digits)
 
 
+def whole_value(step, some, told):
+    """A value of the step of which this is told to some of the hearers, and 0 to the others."""
+    if told == many_for(step, some):
+        return many_for(step, step[2])
+    if step[0] != "deal":
+        return told
+    digits = dict(zip(some, digits_of(_numbers(step, step[3], some), told)))
+    return value_of(step[3], [digits.get(hearer, 0) for hearer in step[2]])
+
+
 def answer_of(step, hearer):
     """How many answers a hearer has."""
     return _numbers(step, step[4], [hearer])[0]

@@ -22,13 +22,6 @@ class Role:
             u, w = min(end, near), max(end, near)
             self.numbers[near] = _numbers(rows_by_steps(tree, text, u, w), plans[(u, w)])
 
-    def kinds(self, near):
-        """The numbers of kinds that this end and a neighbour may send over their line."""
-        spec = self.specs[near]
-        if spec[0] == "wires":
-            return (spec[1], spec[1])
-        return (spec[1], spec[2]) if self.end < near else (spec[2], spec[1])
-
     def source(self, at):
         """The neighbour from which the value of a step comes, or 0 if this end speaks."""
         return self._towards(self.text[at][SPEAKER])

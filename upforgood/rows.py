@@ -10,13 +10,13 @@ MOST_KINDS = 16
 
 
 def can_tell(row, own, other):
-    _check(row, own, other)
-    least = _stairs(row, _told(max(own, other)))[0][own]
+    check_row_and_kinds(row, own, other)
+    least = stairs_by(row, told_by_kinds(max(own, other)))[0][own]
     return least is not None and least <= other
 
 
 def fits(row, own, other, value):
-    _check(row, own, other)
+    check_row_and_kinds(row, own, other)
     if not is_plan(value) or len(value) != len(row):
         return False
     kinds, answering = own, other
@@ -32,18 +32,12 @@ def fits(row, own, other, value):
 
 
 def plan(row, own, other):
-    _check(row, own, other)
-    told = _told(max(own, other))
-    least = _stairs(row, told)
-    if least[0][own] is None or least[0][own] > other:
+    """Of the plans that fit one that uses the fewest kinds."""
+    found = ways(row, own, other)
+    if found == {}:
         return None
-    rounds = []
-    kinds, answering = own, other
-    for at, number in enumerate(row):
-        rest, answers = _choice(number, told[kinds], least[at + 1], answering)
-        rounds.append(even_parts(kinds - rest, answers + 1))
-        kinds, answering = answering - answers, rest
-    return tuple(rounds)
+    most = max([sum(left) for left in found])
+    return min([way for left, way in found.items() if sum(left) == most])[1]
 
 
 def left_by(value, own, other):
@@ -62,14 +56,30 @@ def left_by(value, own, other):
 
 def stairs(row, most):
     _check_stairs(row, most)
-    return _stairs(row, _told(most))
+    return stairs_by(row, told_by_kinds(most))
 
 
 def stairs_hold(row, most, value):
     _check_stairs(row, most)
     if not is_list(value) or not all([_is_stair(stair) for stair in value]):
         return False
-    return [list(stair) for stair in value] == _stairs(row, _told(most))
+    return [list(stair) for stair in value] == stairs_by(row, told_by_kinds(most))
+
+
+def ways(row, own, other):
+    """By the kinds of both ends that are left behind the row: the fewest answers in all, and a plan with so many."""
+    check_row_and_kinds(row, own, other)
+    told = told_by_kinds(max(own, other))
+    found = {(own, other): (0, ())}
+    for number in row:
+        behind = {}
+        for (kinds, answering), (total, rounds) in found.items():
+            for rest, answers in choices(number, told[kinds], answering):
+                left = (answering - answers, rest)
+                way = (total + answers, rounds + (even_parts(kinds - rest, answers + 1),))
+                behind[left] = min(way, behind.get(left, way))
+        found = behind
+    return found
 
 
 def is_row(value):
@@ -91,7 +101,7 @@ def _is_stair(value):
     return is_list(value) and all([least is None or is_integer(least) for least in value])
 
 
-def _stairs(row, told):
+def stairs_by(row, told):
     """Each stair from the one of what follows, as more kinds never tell less."""
     found = [[0] * len(told)]
     for number in row[::-1]:
@@ -125,16 +135,10 @@ def _need(further, rest):
     return None
 
 
-def _choice(number, told, further, answering):
-    """How many kinds are left of the speaker and how many answers come, so that the rest can follow."""
-    for rest, values in enumerate(told):
-        answers = _fewest_answers(number, values)
-        if answers is None or answers > answering:
-            continue
-        least = further[answering - answers]
-        if least is not None and least <= rest:
-            return (rest, answers)
-    return None
+def choices(number, told, answering):
+    """How many kinds can be left of the speaker, each time with the fewest answers that this takes."""
+    found = [(rest, _fewest_answers(number, values)) for rest, values in enumerate(told)]
+    return [(rest, answers) for rest, answers in found if answers is not None and answers <= answering]
 
 
 def _fewest_answers(number, values):
@@ -145,7 +149,7 @@ def _fewest_answers(number, values):
     return None
 
 
-def _told(most):
+def told_by_kinds(most):
     """By kinds of the speaker, those left to it and answers: the greatest number that is told."""
     return [[_told_by(kinds, rest) for rest in range(kinds)] for kinds in range(most + 1)]
 
@@ -154,7 +158,7 @@ def _told_by(kinds, rest):
     return [most_arranged(kinds, rounds, rest) for rounds in range(1, kinds - rest + 1)]
 
 
-def _check(row, own, other):
+def check_row_and_kinds(row, own, other):
     _check_row(row)
     _check_kinds(own, other)
 

@@ -24,9 +24,6 @@ class Talk:
     def state(self):
         return (self.told, self.mine, self.theirs, self.rounds, self.gone)
 
-    def is_idle(self):
-        return self.rounds == ()
-
     def is_telling(self):
         return self.gone > 0
 
@@ -105,11 +102,10 @@ class Talk:
         self.gone = 0
 
 
-def new_state(own, other):
-    """The state of a view of a line on which nothing has been sent."""
-    mine = tuple(range(1, own + 1))
-    theirs = tuple(range(1, other + 1))
-    return (0, mine, theirs, (), 0)
+def new_state(spec, is_lesser):
+    """The state of the view that the lesser end of a line, or the greater one, has at first."""
+    own, other = (spec[1], spec[-1]) if is_lesser else (spec[-1], spec[1])
+    return (0, tuple(range(1, own + 1)), tuple(range(1, other + 1)), (), 0)
 
 
 def _all_of(rounds):

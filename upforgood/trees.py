@@ -1,7 +1,7 @@
 """Trees of ends and lines: points 51 and 52."""
 
 from upforgood.checks import is_between, is_list
-from upforgood.errors import InvalidEnd, InvalidEnds, InvalidLines, NoLine
+from upforgood.errors import InvalidEnd, InvalidEnds, InvalidLines, InvalidPairs, NoLine
 from upforgood.lines import is_spec
 
 FEWEST_ENDS = 2
@@ -41,6 +41,18 @@ def path(tree, u, w):
 def beyond(tree, u, w):
     check_line(tree, u, w)
     return [end for end in range(1, tree.ends + 1) if w in path(tree, u, end)]
+
+
+def bare_tree(ends, pairs):
+    """A tree with lines between these pairs, over which nothing can be sent."""
+    if not is_between(ends, FEWEST_ENDS, MOST_ENDS):
+        raise InvalidEnds(ends)
+    if not is_list(pairs) or not all([isinstance(pair, tuple) for pair in pairs]):
+        raise InvalidPairs(pairs)
+    lines = [pair + (("wires", 0),) for pair in pairs]
+    if not _are_lines(ends, lines):
+        raise InvalidPairs(pairs)
+    return Tree(ends, lines)
 
 
 def check_end(tree, end):

@@ -27,7 +27,7 @@ def raise_fits(row, wires, value):
 
 def raise_plan(row, wires):
     _check(row, wires)
-    told = _most_told(wires)
+    told = most_told(wires)
     rounds = []
     left = wires
     for number in row:
@@ -41,7 +41,7 @@ def raise_plan(row, wires):
 
 def leasts(row):
     _check_row(row)
-    told = _most_told(MOST_WIRES)
+    told = most_told(MOST_WIRES)
     found = [0]
     for number in row[::-1]:
         found.append(_least(number, found[-1], told))
@@ -50,7 +50,7 @@ def leasts(row):
 
 def most_raised(wires):
     _check_wires(wires)
-    return max([number for number, _ in _most_told(wires)[wires]], default=0)
+    return max([number for number, _ in most_told(wires)[wires]], default=0)
 
 
 def _least(number, need, told):
@@ -72,7 +72,7 @@ def _most_rest(number, by_rest):
     return None
 
 
-def _most_told(most):
+def most_told(most):
     """By wires, and by how many of them are left: the greatest number and sizes that tell it."""
     told = []
     for wires in range(most + 1):

@@ -3,13 +3,13 @@
 from upforgood.checks import is_between, is_integer, is_list
 from upforgood.ends import Made
 from upforgood.errors import (
-    BadEntry, Failed, InvalidNumber, InvalidPrograms, InvalidValue, NoTurn, NotAsked, NotSent, TalkError,
+    BadEntry, Failed, InvalidNumber, InvalidPrograms, InvalidValue, NoTurn, NotAsked, TalkError,
 )
-from upforgood.lines import Line
+from upforgood.nets import Net
 from upforgood.parts import answer_of, is_end
 from upforgood.programs import Folded, Table
 from upforgood.texts import check_text, due_of, goes_on, is_value
-from upforgood.trees import check_end, check_neighbours
+from upforgood.trees import check_end
 
 EARLY = "early"
 WRONG = "wrong"
@@ -26,7 +26,7 @@ class World:
         self._text = text
         self._programs = list(programs)
         self._standings = [program.first() for program in programs]
-        self._lines = [Line(spec) for _, _, spec in tree.lines]
+        self._net = Net(tree)
         self._values = []
         self._answered = []
         self._done = 0
@@ -47,11 +47,7 @@ class World:
         return [end for end in self._step()[2] if self._has_decided(end) and end not in answers]
 
     def under_way(self):
-        found = []
-        for (u, w, _), line in zip(self._tree.lines, self._lines):
-            found.extend([(u, w, kind) for kind in line.under_way(1)])
-            found.extend([(w, u, kind) for kind in line.under_way(0)])
-        return sorted(found)
+        return self._net.under_way()
 
     def is_over(self):
         if self._fault is not None:
@@ -87,11 +83,7 @@ class World:
 
     def give(self, u, w, kind):
         self._check_not_failed()
-        check_neighbours(self._tree, u, w)
-        line = self._line(u, w)
-        if not is_integer(kind) or kind not in line.sent(_side(u, w)):
-            raise NotSent(kind)
-        if not line.come(_side(w, u), kind):
+        if not self._net.give(u, w, kind):
             self._run.append(("give", u, w, kind))
             return []
         return self._enter(("give", u, w, kind), w, ("comes", u, kind))
@@ -104,8 +96,7 @@ class World:
         return self._done
 
     def line(self, u, w):
-        check_neighbours(self._tree, u, w)
-        return self._line(u, w).copy()
+        return self._net.line(u, w)
 
     def run(self):
         return list(self._run)
@@ -113,7 +104,7 @@ class World:
     def copy(self):
         world = World(self._tree, self._text, self._programs)
         world._standings = list(self._standings)
-        world._lines = [line.copy() for line in self._lines]
+        world._net = self._net.copy()
         world._values = list(self._values)
         world._answered = [dict(answers) for answers in self._answered]
         world._done = self._done
@@ -138,10 +129,9 @@ class World:
 
     def situation(self):
         """What the run has led to, as a tuple that is equal for runs that agree in this."""
-        lines = [(tuple(line.sent(side)), tuple(line.come_to(side))) for line in self._lines for side in (0, 1)]
         answers = [tuple(sorted(answers.items())) for answers in self._answered]
         said = [tuple(said) for said in self._said]
-        return tuple(self._standings) + (tuple(lines), tuple(self._values), tuple(answers), tuple(said))
+        return tuple(self._standings) + (self._net.state(), tuple(self._values), tuple(answers), tuple(said))
 
     def _enter(self, entry, end, event):
         """Let the program of an end make its step, and tell what it said that counts."""
@@ -149,7 +139,7 @@ class World:
         behind, sends, says = self._programs[end - 1].step(self._standings[end - 1], event)
         self._standings[end - 1] = behind
         for near, kind in sends:
-            self._send(end, near, kind)
+            self._net.send(end, near, kind)
         counted = []
         for say in says:
             counted.append((end, say))
@@ -160,13 +150,6 @@ class World:
         if self._is_stuck():
             self._fault = NEVER
         return counted
-
-    def _send(self, end, near, kind):
-        if near not in self._tree.neighbours(end):
-            return
-        line = self._line(end, near)
-        if is_between(kind, 1, line.kinds(_side(end, near))):
-            line.send(_side(end, near), kind)
 
     def _fault_by(self, end, say):
         """The fault by which a say fails, or None if it is right, and counted."""
@@ -184,7 +167,7 @@ class World:
     def _fault_by_decides(self, end, due):
         if end not in self._step()[2] or self._has_decided(end):
             return EARLY
-        expected = [due for hearer, due in due_of(self._step(), self._values[-1]) if hearer == end]
+        expected = [told for hearer, told in due_of(self._step(), self._values[-1]) if hearer == end]
         if due != expected[0]:
             return WRONG
         self._decided[end - 1].append((len(self._values) - 1, due))
@@ -222,10 +205,6 @@ class World:
 
     def _have_all_decided(self):
         return all([self._has_decided(hearer) for hearer in self._step()[2]])
-
-    def _line(self, u, w):
-        pair = (min(u, w), max(u, w))
-        return self._lines[[line[:2] for line in self._tree.lines].index(pair)]
 
     def _check_not_failed(self):
         if self._fault is not None:
@@ -270,8 +249,3 @@ def _is_entry(value):
     if word == "hand":
         return len(value) == 2
     return (word == "answer" and len(value) == 3) or (word == "give" and len(value) == 4)
-
-
-def _side(end, near):
-    """The lesser end of a line is its side 0."""
-    return 0 if end < near else 1
