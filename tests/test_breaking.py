@@ -216,6 +216,21 @@ class Broken(Case):
         for lot in [programs, folded(tree, programs)]:
             self.breaks(tree, text, lot)
 
+    def test_a_hearer_beside_who_decides_late(self):
+        """The asker asks the end 3 only when the end 2 has answered, beyond the line that bars."""
+        tree = Tree(3, [(1, 2, ("letters", 1, 2)), (1, 3, ("letters", 2, 2))])
+        text = (("ask", 1, (2, 3), 1, (3, 2), False),)
+        self.same(barred(tree, text), [(1, 2)])
+        asker = {("", ("handed", 0)): ("", ((2, 1),), ())}
+        for kind in (1, 2):
+            asker[("", ("comes", 2, kind))] = (kind, ((3, 1),), ())
+            for other in (1, 2):
+                asker[(kind, ("comes", 3, other))] = ("", (), (("answers", (kind - 1, other - 1)),))
+        beyond = {("", ("comes", 1, 1)): ("", (), (("decides", 0),))}
+        beyond.update({("", ("handed", number)): ("", sends, ()) for number, sends in enumerate([((1, 1),), ((1, 2),), ((1, 1), (1, 2))])})
+        beside = {("", ("comes", 1, 1)): ("", (), (("decides", 0),)), ("", ("handed", 0)): ("", ((1, 1),), ()), ("", ("handed", 1)): ("", ((1, 2),), ())}
+        self.same(self.breaks(tree, text, [Table("", asker), Table("", beyond), Table("", beside)]), "wrong")
+
     def test_more_than_six(self):
         idle = [IDLE, IDLE]
         great = (("tell", 1, (2,), 10 ** 12, 0, False),)

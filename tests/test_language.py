@@ -191,6 +191,41 @@ class Form(unittest.TestCase):
                     self.assertIsInstance(node.ctx, ast.Load, (name, node.id))
                     self.assertIn(node.id, ALLOWED_BUILTINS, name)
 
+    def test_no_imports_in_a_circle(self):
+        needs = {}
+        for name, tree in trees():
+            modules = [node.module for node in tree.body if isinstance(node, ast.ImportFrom) and node.module not in LIBRARY]
+            needs[name[:-3]] = [module.partition(".")[2] for module in modules]
+        while needs:
+            free = [name for name in needs if not needs[name]]
+            self.assertTrue(free, needs)
+            needs = {name: [other for other in others if other not in free] for name, others in needs.items() if name not in free}
+
+    def test_each_name_means_one_thing(self):
+        """No parameter and no local variable has the name of an import or a class of its file; nothing is left over."""
+        for name, tree in trees():
+            taken = [part.name for node in tree.body if isinstance(node, ast.ImportFrom) for part in node.names]
+            functions = [node.name for node in tree.body if isinstance(node, ast.FunctionDef)]
+            used = [node.id for node in ast.walk(tree) if isinstance(node, ast.Name) and isinstance(node.ctx, ast.Load)]
+            for word in taken + [word for word in functions if word.startswith("_")]:
+                self.assertIn(word, used, name)
+            taken += [node.name for node in tree.body if isinstance(node, ast.ClassDef)] + functions
+            local = [node.arg for node in ast.walk(tree) if isinstance(node, ast.arg)]
+            local += [node.id for node in ast.walk(tree) if isinstance(node, ast.Name) and isinstance(node.ctx, ast.Store)]
+            for word in local:
+                self.assertNotIn(word, taken, name)
+
+    def test_methods_and_attributes(self):
+        """Own methods are used somewhere or listed by the interface, and none has the name of an attribute of its class."""
+        listed = [word for words in INTERFACE.values() for told in words.values() if isinstance(told, dict) for word in told]
+        read = [node.attr for _, node in nodes(ast.Attribute)]
+        for name, node in nodes(ast.ClassDef):
+            methods = [part.name for part in node.body if isinstance(part, ast.FunctionDef)]
+            stored = [part.attr for part in ast.walk(node) if isinstance(part, ast.Attribute) and isinstance(part.ctx, ast.Store)]
+            self.assertEqual(set(methods) & set(stored), set(), (name, node.name))
+            for method in methods:
+                self.assertTrue(method in listed or method in read, (name, method))
+
     def test_methods(self):
         own = [node.name for _, node in nodes(ast.FunctionDef)]
         for name, node in nodes(ast.Call):

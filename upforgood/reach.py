@@ -20,7 +20,7 @@ class LetterReach:
         """The greatest number that can be told first, 0 if there is none."""
         best = 0
         for left in range(own):
-            for answers in range(min(other, own - left - 1) + 1):
+            for answers in range(other + 1):
                 if self.follows(left, other - answers):
                     best = max(best, most_arranged(own, answers + 1, left))
         return best
@@ -29,7 +29,7 @@ class LetterReach:
         """The greatest number that further rounds tell, each of them behind an answer."""
         if not self.follows(own, other):
             return 0
-        return max(1, self.greatest(own, other - 1)) if other > 0 else 1
+        return max(1, self.greatest(own, other - 1))
 
 
 class WireReach:

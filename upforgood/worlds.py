@@ -129,9 +129,9 @@ class World:
 
     def situation(self):
         """What the run has led to, as a tuple that is equal for runs that agree in this."""
-        answers = [tuple(sorted(answers.items())) for answers in self._answered]
-        said = [tuple(said) for said in self._said]
-        return tuple(self._standings) + (self._net.state(), tuple(self._values), tuple(answers), tuple(said))
+        answered = [tuple(sorted(answers.items())) for answers in self._answered]
+        spoken = [tuple(said) for said in self._said]
+        return tuple(self._standings) + (self._net.state(), tuple(self._values), tuple(answered), tuple(spoken))
 
     def _enter(self, entry, end, event):
         """Let the program of an end make its step, and tell what it said that counts."""
