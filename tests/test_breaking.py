@@ -207,6 +207,15 @@ class Broken(Case):
             self.breaks(tree, text, [Table(0, rows), hearer])
         self.same(can_keep(tree, (("tell", 1, (2,), 3, 0, False),)), True)
 
+    def test_an_end_that_takes_all_and_is_told_rightly(self):
+        """Behind the end nothing has to follow, so its run is not the one that leaves too few kinds."""
+        text = (("tell", 1, (2,), 2, 1, True), ("tell", 1, (2,), 1, 0, False))
+        rows = {("", ("handed", 0)): ("", ((2, 1),), ()), ("", ("handed", 1)): ("", ((2, 2),), ()), ("", ("handed", 2)): ("", ((2, 1), (2, 2)), ())}
+        waits = {("", ("comes", 1, kind)): ("one", (), ()) for kind in (1, 2)}
+        waits.update({("one", ("comes", 1, kind)): ("", (), (("decides", "end"),)) for kind in (1, 2)})
+        self.same(fault_of(TWO, text, [Table("", rows), Table("", waits)], [("hand", 2), ("give", 1, 2, 1), ("give", 1, 2, 2)]), None)
+        self.same(self.breaks(TWO, text, [Table("", rows), Table("", waits)]), "never")
+
     def test_answers_that_cannot_be_told(self):
         roomy = Tree(3, [(1, 2, ("letters", 4, 4)), (2, 3, ("letters", 4, 4))])
         tree = Tree(3, [(1, 2, ("letters", 4, 2)), (2, 3, ("letters", 4, 4))])
@@ -219,7 +228,7 @@ class Broken(Case):
     def test_a_hearer_beside_who_decides_late(self):
         """The asker asks the end 3 only when the end 2 has answered, beyond the line that bars."""
         tree = Tree(3, [(1, 2, ("letters", 1, 2)), (1, 3, ("letters", 2, 2))])
-        text = (("ask", 1, (2, 3), 1, (3, 2), False),)
+        text = (("ask", 1, (2, 3), 1, (3, 1), False),)
         self.same(barred(tree, text), [(1, 2)])
         asker = {("", ("handed", 0)): ("", ((2, 1),), ())}
         for kind in (1, 2):
@@ -228,7 +237,7 @@ class Broken(Case):
                 asker[(kind, ("comes", 3, other))] = ("", (), (("answers", (kind - 1, other - 1)),))
         beyond = {("", ("comes", 1, 1)): ("", (), (("decides", 0),))}
         beyond.update({("", ("handed", number)): ("", sends, ()) for number, sends in enumerate([((1, 1),), ((1, 2),), ((1, 1), (1, 2))])})
-        beside = {("", ("comes", 1, 1)): ("", (), (("decides", 0),)), ("", ("handed", 0)): ("", ((1, 1),), ()), ("", ("handed", 1)): ("", ((1, 2),), ())}
+        beside = {("", ("comes", 1, 1)): ("", (), (("decides", 0),)), ("", ("handed", 0)): ("", ((1, 1),), ())}
         self.same(self.breaks(tree, text, [Table("", asker), Table("", beyond), Table("", beside)]), "wrong")
 
     def test_more_than_six(self):

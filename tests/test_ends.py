@@ -295,6 +295,8 @@ class Programs(Case):
         deed = centre.step(standing, ("comes", 3, 1))
         self.same(deed[1:], ((), ()))
         self.assertTrue(is_standing(deed[0]))
+        late = centre.step(deed[0], ("comes", 4, 1))
+        self.same(late[1:], ((), ()))
 
     def test_for_another_tree_and_text(self):
         rng = random.Random(107)

@@ -1,10 +1,11 @@
 """What an end makes of an event, when it speaks and answers by a paper.
 
-The value of a step goes out from its speaker along all lines beyond which
-someone hears. Towards the end that goes on it is passed only when all hearers
-beside this way are known to have decided, so that this end knows of all of them
-as soon as it has the value and its own replies. Each other hearer's reply, a bare signal or
-the answers, comes back. Nobody waits for replies to a value that ends the text.
+The value of a step goes out from its speaker along all lines beyond which someone
+hears. Towards the end that goes on it is passed only when all hearers beside this
+way are known to have decided, so that this end knows of all of them as soon as it
+has the value and the replies of its own branches. The replies, bare signals or the
+answers, come back along all other lines. Nobody waits for replies to a value that
+ends the text.
 """
 
 from upforgood.checks import is_between
@@ -18,9 +19,10 @@ NO_TURN = -1
 class Act:
     """An end in a standing, which takes one event.
 
-    A standing is the tuple of my_turn, the step that may be handed to this end, if any;
-    doing, () or the step at which it is, its value, and the replies to it, as tuples of
-    who replied and the number; and the states of the talks with all neighbours.
+    A standing is the tuple of my_turn, the step that may be handed to this end or
+    NO_TURN; doing, the step that waits for replies here, its value, and the replies
+    as tuples of who replied and the number, or () if there is no such step; and the
+    states of the talks with all neighbours.
     """
 
     def __init__(self, role, standing):
