@@ -225,12 +225,13 @@ class Works(Case):
         self.same(found[0], found[1])
 
     def test_calm(self):
-        tree = Tree(3, [(1, 2, ("letters", 3, 3)), (2, 3, ("wires", 6))])
+        tree = Tree(4, [(1, 2, ("letters", 3, 3)), (2, 3, ("wires", 6)), (2, 4, ("letters", 3, 3))])
         service = Service(tree, 2, 2)
-        self.same([service.calm(), service.hand(end=1, number=1)], [[], []])
+        self.same([service.calm(), service.hand(end=2, number=1)], [[], []])
+        self.assertEqual(len(service.under_way()), 3)
         given = []
         other = Service(tree, 2, 2)
-        other.hand(1, 1)
+        other.hand(2, 1)
         while other.under_way():
             given.append(("give",) + other.under_way()[0])
             other.give(*other.under_way()[0])
