@@ -295,3 +295,187 @@ raises InvalidAnswers(-1)
 >>> Service(tree, 2, 3)
 raises NoService(2)
 """)
+
+    def test_exchange(self):
+        self.play("""
+>>> from upforgood.exchange import Exchange, both, both_known
+>>> [both(2, 2), both(3, 2), both(5, 2), both_known(2, 2), both_known(5, 2), both(4, 4), both_known(6, 3), both(2, 5)]
+[(2, 2), (6, 2), (60, 2), (2, 2), (30, 2), (24, 24), (180, 6), (2, 60)]
+>>> exchange = Exchange(3, 2, True)
+>>> [exchange.numbers(), exchange.hand(1, 1), exchange.decided(0), exchange.hand(0, 4), len(exchange.calm()) > 0]
+[(6, 2), [], None, [], True]
+>>> [exchange.decided(0), exchange.decided(1), exchange.knows(0), exchange.knows(1), exchange.under_way()]
+[1, 4, True, True, []]
+>>> loose = Exchange(2, 5, False)
+>>> [loose.numbers(), loose.hand(0, 0), loose.decided(1), loose.hand(1, 59), len(loose.calm()) > 0]
+[(2, 60), [], None, [], True]
+>>> [loose.decided(0), loose.decided(1), loose.knows(0), loose.knows(1)]
+[59, 0, False, False]
+>>> exchange.hand(0, 4)
+raises Handed(0)
+""")
+
+    def test_sessions(self):
+        self.play("""
+>>> from upforgood.sessions import Session, play
+>>> lines = ["ends 2", "line 1 2 letters 3 1", "tell 1 to 2 of 3 then 2", "tell 2 to 1 of 2 then nobody", "keep"]
+>>> play(lines)
+['ends', 'line', 'step', 'step', 'no 1 2']
+>>> session = Session()
+>>> [session.do(line) for line in lines[:3] + ["tell 2 to 1 of 1 then nobody", "keep", "start", "show", "hand 2"]]
+['ends', 'line', 'step', 'step', 'yes', 'started', 'turn 0', 'nothing']
+>>> [session.do("calm") in ["1", "2"], session.do("show"), session.do("hand 0"), session.do("calm"), session.do("show")]
+[True, 'turn 1', 'nothing', '1', 'over']
+>>> [session.undo(), session.do("show"), session.undo(), session.undo(), session.do("show"), len(session.lines())]
+[None, 'over', None, None, 'open, 2 1 1', 12]
+>>> session.do("tell 1 to 2 of 2 then nobody")
+raises InvalidLine('tell 1 to 2 of 2 then nobody')
+>>> asked = ["ends 3", "line 2 3 wires 4", "line 1 2 letters 2 2", "ask 1 to 3 of 1 answers 2 or end", "start", "hand 0"]
+>>> desk = Session()
+>>> [[desk.do(line) for line in asked], desk.do("calm") != "0", desk.do("show"), desk.do("answer 3 1"), desk.do("calm") != "0", desk.do("show")]
+[['ends', 'line', 'line', 'step', 'started', 'nothing'], True, 'open', 'nothing', True, 'over']
+>>> desk.do("answer 3 1")
+raises NotAsked(3)
+""")
+
+    def test_noes(self):
+        self.play("""
+>>> from upforgood.noes import is_no_paper, no_paper, raised_until, told_until
+>>> from upforgood.trees import Tree
+>>> text = (("tell", 1, (2,), 2, 2, False), ("tell", 2, (1,), 2, 0, False))
+>>> [no_paper(Tree(2, [(1, 2, ("letters", 2, 2))]), text), no_paper(Tree(2, [(1, 2, ("wires", 2))]), text)]
+[None, (1, 2, [3, 2, 0])]
+>>> no_paper(Tree(2, [(1, 2, ("letters", 2, 1))]), text)
+(1, 2, [[None, None, 2], [None, None, 0], [0, 0, 0]])
+>>> [is_no_paper(Tree(2, [(1, 2, ("wires", 2))]), text, (1, 2, [3, 2, 0])), is_no_paper(Tree(2, [(1, 2, ("wires", 3))]), text, (1, 2, [3, 2, 0]))]
+[True, False]
+>>> tree = Tree(3, [(1, 2, ("letters", 4, 2)), (2, 3, ("wires", 2))])
+>>> no_paper(tree, (("tell", 3, (1,), 3, 0, False),))
+(1, 2, [[None, None, None, 0, 0], [0, 0, 0, 0, 0]])
+>>> [is_no_paper(tree, (("tell", 3, (1,), 3, 0, False),), value) for value in [(2, 3, [3, 0]), (2, 3, (3, 0)), (2, 3, [4, 0]), (3, 2, [3, 0])]]
+[True, True, False, False]
+>>> [told_until([6, 2], 3, 2), told_until([3, 1, 2], 3, 1), told_until([3], 2, 0), raised_until([3, 3], 3)]
+[1, 3, 0, 1]
+>>> raised_until([3, 3], 25)
+raises InvalidWires(25)
+""")
+
+    def test_costs(self):
+        self.play("""
+>>> from upforgood.costs import allowed, cheapest, cost_of
+>>> from upforgood.trees import Tree
+>>> text, back = (("tell", 1, (2,), 6, 1, False),), (("tell", 2, (1,), 2, 0, False),)
+>>> [allowed(2, [(1, 2)], [text], 1, 2), allowed(2, [(1, 2)], [text, back], 1, 2), allowed(2, [(1, 2)], [(("tell", 1, (2,), 10 ** 12, 0, False),)], 1, 2)]
+[([(3, 2), (4, 1)], 4), ([(3, 2)], 4), ([], None)]
+>>> [cheapest(2, [(1, 2)], [(10, 1, None)], [text]), cheapest(2, [(1, 2)], [(10, 30, None)], [text]), cheapest(2, [(1, 2)], [(10, 30, 1)], [text]), cheapest(2, [(1, 2)], [(None, 3, None)], [text])]
+[(32, (('letters', 3, 2),)), (70, (('letters', 4, 1),)), (4, (('wires', 4),)), None]
+>>> cheapest(3, [(2, 3), (1, 2)], [(3, 1, 1), (1, 7, None)], [(("tell", 1, (3,), 2, 3, False),)])
+(4, (('wires', 2), ('letters', 2, 0)))
+>>> [cost_of(Tree(2, [(1, 2, ("letters", 3, 2))]), [(10, 1, 4)]), cost_of(Tree(2, [(1, 2, ("wires", 3))]), [(10, 1, None)])]
+[32, None]
+>>> allowed(2, [(1, 2)], [text], 2, 1)
+raises NoLine(2, 1)
+""")
+
+    def test_merging(self):
+        self.play("""
+>>> from upforgood.merging import least_table, least_tables, parting
+>>> from upforgood.programs import Table
+>>> rows = {("a", ("handed", 0)): ("b", ((2, 1),), ()), ("b", ("comes", 2, 1)): ("c", (), (("done",),)), ("c", ("handed", 5)): ("d", (), ()), ("x", ("handed", 0)): ("a", (), ())}
+>>> least = least_table(Table("a", rows))
+>>> [least.first(), sorted(least.rows().items())]
+[0, [((0, ('handed', 0)), (1, ((2, 1),), ())), ((1, ('comes', 2, 1)), (2, (), (('done',),)))]]
+>>> [parting(Table("a", rows), least), parting(Table("b", rows), least), parting(Table("d", {}), Table("c", rows))]
+[None, [('comes', 2, 1)], None]
+>>> [table == least for table in least_tables([Table("a", rows), least])]
+[True, True]
+>>> least_tables(0)
+raises InvalidPrograms(0)
+""")
+
+    def test_turnings(self):
+        self.play("""
+>>> from upforgood.turnings import can_order, kept_order, orders, room, room_of, room_raised, row_of
+>>> from upforgood.trees import Tree
+>>> [row_of([(1, 3), (1, 2), (0, 4)]), row_of([])]
+[(1, [3, 1, 2, 4]), (0, [])]
+>>> [can_order(("letters", 3, 2), [(0, 6), (1, 2)]), can_order(("letters", 3, 2), [(1, 2), (0, 6)])]
+[False, True]
+>>> [orders(("letters", 3, 2), [(0, 6), (1, 2)]), orders(("wires", 4), [(0, 2), (0, 2)]), orders(("wires", 3), [(0, 2), (0, 2)])]
+[[((1, 2), (0, 6))], [((0, 2), (0, 2))], []]
+>>> [room([6, 1], 3, 2), room([2, 1], 2, 1), room_raised([2, 3], 4), room_raised([3, 3], 3)]
+[[6, 1], [2, 1], [4, 3], [0, 2]]
+>>> tree = Tree(2, [(1, 2, ("letters", 3, 2))])
+>>> [kept_order(tree, [(1, (2,), 6), (2, (1,), 2)]), kept_order(tree, [(1, (2,), 6), (2, (1,), 3)])]
+[(('tell', 2, (1,), 2, 1, False), ('tell', 1, (2,), 6, 0, False)), None]
+>>> text = (("tell", 1, (2,), 1, 2, True), ("tell", 2, (1,), 2, 0, False))
+>>> [room_of(tree, text, 0), room_of(tree, text, 1)]
+[2, 2]
+>>> room_of(tree, text, 2)
+raises InvalidAt(2)
+""")
+
+    def test_records(self):
+        self.play("""
+>>> from upforgood.programs import Table
+>>> from upforgood.records import is_true, read_record, record_of, untruth
+>>> from upforgood.trees import Tree
+>>> tree = Tree(2, [(1, 2, ("letters", 2, 0))])
+>>> text = (("tell", 1, (2,), 2, 0, False),)
+>>> teller = Table("", {("", ("handed", 0)): ("", ((2, 1),), ()), ("", ("handed", 1)): ("", ((2, 1), (2, 2)), ())})
+>>> hearer = Table("", {("", ("comes", 1, 1)): ("", (), (("decides", 0),)), ("", ("comes", 1, 2)): ("two", (), ()), ("two", ("comes", 1, 1)): ("", (), (("decides", 1),))})
+>>> lines = record_of(tree, text, [teller, hearer], [("hand", 1), ("give", 1, 2, 2), ("give", 1, 2, 1)])
+>>> lines[:7]
+['ends 2', 'line 1 2 letters 2 0', 'tell 1 to 2 of 2 then nobody', 'program 1', 'at 0 handed 0 goes 0 sends 2 1', 'at 0 handed 1 goes 0 sends 2 1, 2 2', 'program 2']
+>>> lines[7:]
+['at 0 comes 1 1 goes 0 says decides 0', 'at 0 comes 1 2 goes 1', 'at 1 comes 1 1 goes 0 says decides 1', 'run', 'hand 1 : nothing', 'give 1 2 2 : nothing', 'give 1 2 1 : 2 decides 1', 'over']
+>>> [is_true(lines), untruth(lines[:14] + ["open"]), untruth(lines[:13] + ["give 1 2 1 : nothing", "over"]), is_true(lines[:5]), read_record(lines)[1] == text]
+[True, 14, 13, False, True]
+>>> record_of(tree, text, [teller, teller], [("hand", 0), ("give", 1, 2, 1)])[-3:]
+['hand 0 : nothing', 'give 1 2 1 : nothing', 'fault never']
+>>> read_record(lines[:5])
+raises BadLine(5)
+>>> read_record(lines[:7] + ["at 0 comes 2 1 goes 1 sends 3 1, 3 2 says decides 0", "at 0 handed 4 goes 2"])
+raises BadLine(9)
+>>> read_record(lines[:7] + ["at 0 handed 4 goes 2", "at 0 comes 2 1 goes 1"])
+raises BadLine(8)
+""")
+
+    def test_bench(self):
+        self.play("""
+>>> from upforgood.bench import Bench
+>>> from upforgood.trees import Tree
+>>> bench = Bench(Tree(2, [(1, 2, ("letters", 3, 2))]))
+>>> [bench.put("a", (("tell", 1, (2,), 6, 0, False),)), bench.put("b", (("tell", 1, (2,), 6, 2, False), ("tell", 2, (1,), 2, 0, False)))]
+[None, None]
+>>> [bench.names(), bench.verdicts(), bench.barred("b"), bench.needs(1, 2), bench.spare(1, 2)]
+[['a', 'b'], [('a', True), ('b', False)], [(1, 2)], ['b'], [('letters', 3, 1)]]
+>>> [bench.compared("a", "b"), bench.compared("b", "a"), bench.compared("a", "a")]
+[['less'], ['more'], ['same']]
+>>> [bench.put("c", (("tell", 2, (1,), 6, 0, False),)), bench.compared("a", "c"), bench.text("c")[0][:3], bench.drop("c"), bench.names()]
+[None, ['unlike'], ('tell', 2, (1,)), None, ['a', 'b']]
+>>> [bench.change(2, 1, ("wires", 5)), bench.verdicts(), bench.spare(2, 1), bench.undo(), bench.tree().lines, bench.deeds()]
+[None, [('a', True), ('b', True)], [('wires', 4)], None, ((1, 2, ('letters', 3, 2)),), 4]
+>>> [bench.redo(), bench.tree().lines, bench.deeds(), bench.undo(), bench.undo(), bench.names()]
+[None, ((1, 2, ('wires', 5)),), 5, None, None, ['a', 'b', 'c']]
+>>> bench.text("d")
+raises NoText('d')
+""")
+
+    def test_stars(self):
+        self.play("""
+>>> from upforgood.stars import Gather, Spread, gathered, spread
+>>> [gathered([3, 2], 1), gathered([4], 0), spread(3, [2, 0]), spread(3, [2, 1])]
+[(6, 2), (6,), 3, 6]
+>>> gather = Gather([3, 2], 1)
+>>> [gather.hand(2, 1), gather.hand(1, 5), len(gather.calm()) > 0, gather.decided(), gather.under_way()]
+[[], [], True, [(1, 5), (2, 1)], []]
+>>> lone = Gather([1], 0)
+>>> [lone.hand(1, 0), lone.under_way(), lone.give(1, 0, 1), lone.give(1, 0, 1), lone.calm(), lone.decided()]
+[[], [(1, 0, 1)], [(1, 0)], [], [], [(1, 0)]]
+>>> star = Spread(3, [2, 1])
+>>> [star.hand(4), len(star.calm()) > 0, star.decided()]
+[[], True, [(1, 4), (2, 4)]]
+>>> star.hand(4)
+raises Handed(0)
+""")

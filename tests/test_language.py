@@ -88,6 +88,41 @@ INTERFACE = {
             "decided": "end", "count": "", "left": "u w",
         },
     },
+    "exchange": {
+        "both": "own other", "both_known": "own other",
+        "Exchange": {
+            "__init__": "own other known", "numbers": "", "hand": "side value", "give": "side kind", "under_way": "", "calm": "", "decided": "side",
+            "knows": "side",
+        },
+    },
+    "sessions": {"Session": {"__init__": "", "do": "line", "lines": "", "undo": "", "redo": ""}, "play": "lines"},
+    "noes": {
+        "no_paper": "tree text", "is_no_paper": "tree text value", "told_until": "row own other", "raised_until": "row wires",
+    },
+    "costs": {
+        "allowed": "ends pairs texts u w", "cheapest": "ends pairs prices texts", "cost_of": "tree prices",
+    },
+    "merging": {"least_table": "table", "parting": "one other", "least_tables": "programs"},
+    "turnings": {
+        "row_of": "order", "can_order": "spec order", "orders": "spec messages", "kept_order": "tree tells", "room": "row own other",
+        "room_raised": "row wires", "room_of": "tree text at",
+    },
+    "records": {
+        "record_of": "tree text programs run", "read_record": "lines", "untruth": "lines", "is_true": "value",
+    },
+    "bench": {
+        "Bench": {
+            "__init__": "tree", "put": "name text", "drop": "name", "change": "u w spec", "names": "", "tree": "", "text": "name", "barred": "name",
+            "verdicts": "", "spare": "u w", "needs": "u w", "compared": "one other", "undo": "", "redo": "", "deeds": "",
+        },
+    },
+    "stars": {
+        "gathered": "kinds answers", "spread": "kinds answers",
+        "Gather": {
+            "__init__": "kinds answers", "hand": "end value", "give": "u w kind", "under_way": "", "calm": "", "decided": "",
+        },
+        "Spread": {"__init__": "kinds answers", "hand": "value", "give": "u w kind", "under_way": "", "calm": "", "decided": ""},
+    },
 }
 
 

@@ -55,6 +55,11 @@ def bare_tree(ends, pairs):
     return Tree(ends, lines)
 
 
+def joins_anew(ends, lines, line):
+    """Whether a line may be added to some lines of a tree of so many ends."""
+    return _is_line(ends, line) and line[1] not in _joined(lines, line[0])
+
+
 def check_end(tree, end):
     if not is_between(end, 1, tree.ends):
         raise InvalidEnd(end)
@@ -91,7 +96,7 @@ def _are_lines(ends, lines):
         return False
     if not all([_is_line(ends, line) for line in lines]):
         return False
-    return _joined(lines) == list(range(1, ends + 1))
+    return _joined(lines, 1) == list(range(1, ends + 1))
 
 
 def _is_line(ends, value):
@@ -103,9 +108,9 @@ def _is_line(ends, value):
     return u < w and is_spec(spec)
 
 
-def _joined(lines):
-    """The ascending list of the ends that hang together with the end 1."""
-    met = [1]
+def _joined(lines, first):
+    """The ascending list of the ends that hang together with this one."""
+    met = [first]
     at = 0
     while at < len(met):
         near = _neighbours(lines, met[at])

@@ -14,7 +14,7 @@ def can_raise(row, wires):
 
 
 def raise_fits(row, wires, value):
-    _check(row, wires)
+    check_row_and_wires(row, wires)
     if not is_plan(value) or len(value) != len(row):
         return False
     left = wires
@@ -26,12 +26,12 @@ def raise_fits(row, wires, value):
 
 
 def raise_plan(row, wires):
-    _check(row, wires)
+    check_row_and_wires(row, wires)
     told = most_told(wires)
     rounds = []
     left = wires
     for number in row:
-        rest = _most_rest(number, told[left])
+        rest = most_rest(number, told[left])
         if rest is None:
             return None
         rounds.append(told[left][rest][1])
@@ -58,13 +58,13 @@ def _least(number, need, told):
     if need is None:
         return None
     for wires, by_rest in enumerate(told):
-        rest = _most_rest(number, by_rest)
+        rest = most_rest(number, by_rest)
         if rest is not None and rest >= need:
             return wires
     return None
 
 
-def _most_rest(number, by_rest):
+def most_rest(number, by_rest):
     """The most wires that can be left, as more of them never tell less."""
     for rest in range(len(by_rest) - 1, -1, -1):
         if by_rest[rest][0] >= number:
@@ -101,7 +101,7 @@ def _raised_by(sizes, wires):
     return number
 
 
-def _check(row, wires):
+def check_row_and_wires(row, wires):
     _check_row(row)
     _check_wires(wires)
 

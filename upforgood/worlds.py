@@ -214,25 +214,27 @@ class World:
 def fault_of(tree, text, programs, run):
     world = World(tree, text, programs)
     for at, entry in enumerate(run):
-        if not make_entry(world, entry):
+        if make_entry(world, entry) is None:
             raise BadEntry(at)
     return world.fault()
 
 
 def make_entry(world, entry):
-    """Make an entry in a world; False, and nothing is changed, if that is not possible."""
+    """Make an entry in a world, and tell what is said; None, and nothing is changed, if that is not possible."""
     if not _is_entry(entry):
-        return False
+        return None
     try:
-        if entry[0] == "hand":
-            world.hand(entry[1])
-        elif entry[0] == "answer":
-            world.answer(entry[1], entry[2])
-        else:
-            world.give(entry[1], entry[2], entry[3])
+        return enter(world, entry)
     except TalkError:
-        return False
-    return True
+        return None
+
+
+def enter(world, entry):
+    if entry[0] == "hand":
+        return world.hand(entry[1])
+    if entry[0] == "answer":
+        return world.answer(entry[1], entry[2])
+    return world.give(entry[1], entry[2], entry[3])
 
 
 def check_programs(tree, programs):
