@@ -332,6 +332,8 @@ class Read(RecordCase):
                 else:
                     self.bad_behind(lines, rows[other])
             self.bad_behind(LINES[:4] + [rows[at]], order[at] + " goes 1 says done")
+            for other in range(at + 1):
+                self.bad_behind(LINES[:4] + rows[:at + 1], rows[other])
         self.fine_up_to(LINES[:4] + rows, "program 2")
         self.fine_up_to(LINES[:4] + rows + ["program 2"], rows[0])
 
@@ -366,7 +368,8 @@ class Read(RecordCase):
             self.fine_up_to(run, line)
         for line in ["hand 0", "hand 0 :", "hand 0 : ", "hand 0 nothing", "hand 0: nothing", "hand 0 : 1", "hand 0 : done", "hand 0 : 0 done", "hand 0 : nothing, 1 done",
                      "hand 0 : 1 done,2 done", "hand 0 : 1 done, ", "hand 0 : 1 decides", "hand 0 : 1 answers", "hand 0 : 1 says done", "give 0 1 1 : nothing", "give 1 1 0 : nothing",
-                     "answer 0 0 : nothing", "hand 0 : nothing : nothing", "calm : 1", "show : open", "keep : yes", "fault", "fault none", "fault early wrong", "over 1", "Open", "none"]:
+                     "answer 0 0 : nothing", "hand 0 : nothing : nothing", "calm : 1", "show : open", "keep : yes", "calm : nothing",
+                     "show : nothing", "keep : nothing", "start : nothing", "ends 2 : nothing", "line 1 2 wires 1 : nothing", "tell 1 to 2 of 2 then 1 : nothing", "fault", "fault none", "fault early wrong", "over 1", "Open", "none"]:
             self.bad_behind(run, line)
         for line in ["over", "open", "fault early", "fault wrong", "fault never"]:
             self.assertIsNotNone(read_record(run + [line]))

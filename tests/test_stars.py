@@ -277,6 +277,16 @@ class Errors(Case):
         self.same([star.under_way(), star.decided()], [twin.under_way(), twin.decided()])
         self.same([star.calm(), star.decided()], [twin.calm(), twin.decided()])
 
+    def test_true_is_not_1(self):
+        for star, u, w in [(Gather([1, 1], 0), 1, 0), (Spread(1, [0]), 0, 1)]:
+            for each in ([1, 0],) if isinstance(star, Gather) else ([0],):
+                star.hand(*each)
+            self.same(star.under_way(), [(u, w, 1)])
+            self.refused_with(NotSent, {"kind": True}, star.give, u, w, True)
+            for ends in [(u == 1, w), (u, w == 1), (u == 1, w == 1)]:
+                self.refused_with(NoLine, {"u": ends[0], "w": ends[1]}, star.give, *ends, 1)
+            self.same([star.give(u, w, 1), star.give(u, w, 1)], [[(1, 0)], []])
+
     def test_lists_that_are_changed_later(self):
         kinds, answers = [3, 2], [2, 1]
         for star, twin in [(Gather(kinds, 1), Gather([3, 2], 1)), (Spread(3, answers), Spread(3, [2, 1]))]:

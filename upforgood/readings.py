@@ -72,7 +72,7 @@ class Reading:
         key, deed = row
         if len(rows) == MOST_ROWS or max(key[0], deed[0]) > LAST_STANDING:
             return False
-        if rows != {} and key <= max(list(rows)):
+        if rows != {} and key <= list(rows)[-1]:
             return False
         rows[key] = deed
         return True
